@@ -1,0 +1,153 @@
+// Package rules holds the layers that have landed against the language that they are to be written in, the map, and the document's section 'Ways'.
+package rules
+
+import (
+	"go/ast"
+	"go/parser"
+	"go/token"
+	"path/filepath"
+	"slices"
+	"strconv"
+	"strings"
+	"testing"
+)
+
+type layer struct {
+	name  string
+	calls []string // the layers that the map lets it call
+	ways  []way
+}
+
+type way struct {
+	word string
+	has  func(ast.Node) bool
+}
+
+func landed() []layer {
+	return []layer{
+		{"field", []string{"api"}, []way{{"label", labelledLoopWithShifts}, {"variadic", variadic}}},
+	}
+}
+
+func all() []string {
+	return strings.Fields("api field envelope draw bag clock oplog table view note vr core lexer def plan saga book image outbox stub node client cluster history audit script")
+}
+
+func library() []string {
+	return strings.Fields("bytes cmp container/heap errors iter maps math math/bits slices sort strconv strings sync sync/atomic unicode unicode/utf8")
+}
+
+// sources: the files of a package that are no tests.
+func sources(t *testing.T, name string) (*token.FileSet, []*ast.File) {
+	t.Helper()
+	paths, err := filepath.Glob(filepath.Join("..", name, "*.go"))
+	if err != nil {
+		t.Fatal(err)
+	}
+	fset := token.NewFileSet()
+	var files []*ast.File
+	for _, p := range paths {
+		if strings.HasSuffix(p, "_test.go") {
+			continue
+		}
+		f, err := parser.ParseFile(fset, p, nil, parser.ParseComments)
+		if err != nil {
+			t.Fatal(err)
+		}
+		files = append(files, f)
+	}
+	if len(files) == 0 {
+		t.Fatalf("package %s has no file", name)
+	}
+	return fset, files
+}
+
+func mayImport(l layer, path string) bool {
+	if slices.Contains(library(), path) {
+		return true
+	}
+	own, ok := strings.CutPrefix(path, "drover/")
+	return ok && (slices.Contains(l.calls, own) || !slices.Contains(all(), own))
+}
+
+func TestImports(t *testing.T) {
+	for _, l := range landed() {
+		fset, files := sources(t, l.name)
+		for _, f := range files {
+			for _, s := range f.Imports {
+				path, err := strconv.Unquote(s.Path.Value)
+				if err != nil || !mayImport(l, path) {
+					t.Errorf("%s: import %s", fset.Position(s.Pos()), s.Path.Value)
+				}
+			}
+		}
+	}
+}
+
+func TestNoDirectives(t *testing.T) {
+	for _, l := range landed() {
+		fset, files := sources(t, l.name)
+		for _, f := range files {
+			for _, g := range f.Comments {
+				for _, c := range g.List {
+					if strings.HasPrefix(c.Text, "//go:") || strings.HasPrefix(c.Text, "// +build") {
+						t.Errorf("%s: %s", fset.Position(c.Pos()), c.Text)
+					}
+				}
+			}
+		}
+	}
+}
+
+func TestWays(t *testing.T) {
+	for _, l := range landed() {
+		_, files := sources(t, l.name)
+		for _, w := range l.ways {
+			if !slices.ContainsFunc(files, func(f *ast.File) bool { return anyNode(f, w.has) }) {
+				t.Errorf("package %s lacks the way %s", l.name, w.word)
+			}
+		}
+	}
+}
+
+func anyNode(root ast.Node, has func(ast.Node) bool) bool {
+	found := false
+	ast.Inspect(root, func(n ast.Node) bool {
+		found = found || n != nil && has(n)
+		return !found
+	})
+	return found
+}
+
+func labelledLoopWithShifts(n ast.Node) bool {
+	l, ok := n.(*ast.LabeledStmt)
+	if !ok {
+		return false
+	}
+	switch l.Stmt.(type) {
+	case *ast.ForStmt, *ast.RangeStmt:
+		return anyNode(l.Stmt, shift)
+	}
+	return false
+}
+
+func shift(n ast.Node) bool {
+	switch x := n.(type) {
+	case *ast.BinaryExpr:
+		return x.Op == token.SHL || x.Op == token.SHR
+	case *ast.AssignStmt:
+		return x.Tok == token.SHL_ASSIGN || x.Tok == token.SHR_ASSIGN
+	}
+	return false
+}
+
+func variadic(n ast.Node) bool {
+	f, ok := n.(*ast.FuncType)
+	if !ok || f.Params == nil {
+		return false
+	}
+	return slices.ContainsFunc(f.Params.List, func(p *ast.Field) bool {
+		_, ok := p.Type.(*ast.Ellipsis)
+		return ok
+	})
+}
