@@ -26,6 +26,7 @@ type way struct {
 func landed() []layer {
 	return []layer{
 		{"field", []string{"api"}, []way{{"label", labelledLoopWithShifts}, {"variadic", variadic}}},
+		{"envelope", []string{"api", "field"}, []way{{"constant-table", constantTable}, {"array", arrayTable}}},
 	}
 }
 
@@ -150,4 +151,43 @@ func variadic(n ast.Node) bool {
 		_, ok := p.Type.(*ast.Ellipsis)
 		return ok
 	})
+}
+
+func constantTable(n ast.Node) bool { return slices.ContainsFunc(tables(n), ofConstants) }
+
+func arrayTable(n ast.Node) bool { return slices.ContainsFunc(tables(n), inArray) }
+
+// tables: what a file's variables at package level are written out as.
+func tables(n ast.Node) []*ast.CompositeLit {
+	f, ok := n.(*ast.File)
+	if !ok {
+		return nil
+	}
+	var l []*ast.CompositeLit
+	for _, d := range f.Decls {
+		g, ok := d.(*ast.GenDecl)
+		if !ok || g.Tok != token.VAR {
+			continue
+		}
+		for _, s := range g.Specs {
+			for _, v := range s.(*ast.ValueSpec).Values {
+				if c, ok := v.(*ast.CompositeLit); ok {
+					l = append(l, c)
+				}
+			}
+		}
+	}
+	return l
+}
+
+func ofConstants(c *ast.CompositeLit) bool {
+	return len(c.Elts) > 0 && !slices.ContainsFunc(c.Elts, func(e ast.Expr) bool {
+		_, ok := e.(*ast.BasicLit)
+		return !ok
+	})
+}
+
+func inArray(c *ast.CompositeLit) bool {
+	a, ok := c.Type.(*ast.ArrayType)
+	return ok && a.Len != nil
 }
