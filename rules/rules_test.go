@@ -27,6 +27,7 @@ func landed() []layer {
 	return []layer{
 		{"field", []string{"api"}, []way{{"label", labelledLoopWithShifts}, {"variadic", variadic}}},
 		{"envelope", []string{"api", "field"}, []way{{"constant-table", constantTable}, {"array", arrayTable}}},
+		{"draw", []string{"api"}, []way{{"method-value", methodValue}, {"copy", copies}, {"conversion", cutProduct}}},
 	}
 }
 
@@ -190,4 +191,38 @@ func ofConstants(c *ast.CompositeLit) bool {
 func inArray(c *ast.CompositeLit) bool {
 	a, ok := c.Type.(*ast.ArrayType)
 	return ok && a.Len != nil
+}
+
+// methodValue: is a method that the file declares given to a call, and not called?
+func methodValue(n ast.Node) bool {
+	f, ok := n.(*ast.File)
+	return ok && anyNode(f, func(n ast.Node) bool {
+		c, ok := n.(*ast.CallExpr)
+		return ok && slices.ContainsFunc(c.Args, func(e ast.Expr) bool {
+			s, ok := e.(*ast.SelectorExpr)
+			return ok && slices.ContainsFunc(f.Decls, func(d ast.Decl) bool {
+				m, ok := d.(*ast.FuncDecl)
+				return ok && m.Recv != nil && m.Name.Name == s.Sel.Name
+			})
+		})
+	})
+}
+
+func copies(n ast.Node) bool { return callOf(n, "copy") }
+
+// cutProduct: is a product of numbers that have room for it cut to 32 bits?
+func cutProduct(n ast.Node) bool {
+	return callOf(n, "uint32") && anyNode(n, func(n ast.Node) bool {
+		b, ok := n.(*ast.BinaryExpr)
+		return ok && b.Op == token.MUL && callOf(b.X, "uint64") && callOf(b.Y, "uint64")
+	})
+}
+
+func callOf(n ast.Node, name string) bool {
+	c, ok := n.(*ast.CallExpr)
+	if !ok {
+		return false
+	}
+	f, ok := c.Fun.(*ast.Ident)
+	return ok && f.Name == name
 }
