@@ -28,6 +28,7 @@ func landed() []layer {
 		{"field", []string{"api"}, []way{{"label", labelledLoopWithShifts}, {"variadic", variadic}}},
 		{"envelope", []string{"api", "field"}, []way{{"constant-table", constantTable}, {"array", arrayTable}}},
 		{"draw", []string{"api"}, []way{{"method-value", methodValue}, {"copy", copies}, {"conversion", cutProduct}}},
+		{"bag", []string{"api"}, []way{{"map", messagesByNumber}, {"delete", deletes}, {"closure", placeByClosure}}},
 	}
 }
 
@@ -216,6 +217,31 @@ func cutProduct(n ast.Node) bool {
 		b, ok := n.(*ast.BinaryExpr)
 		return ok && b.Op == token.MUL && callOf(b.X, "uint64") && callOf(b.Y, "uint64")
 	})
+}
+
+// messagesByNumber: is a field of a struct a map of messages by ints?
+func messagesByNumber(n ast.Node) bool {
+	s, ok := n.(*ast.StructType)
+	return ok && slices.ContainsFunc(s.Fields.List, func(f *ast.Field) bool {
+		m, ok := f.Type.(*ast.MapType)
+		return ok && names(m.Key, "int") && anyNode(m.Value, func(n ast.Node) bool { return names(n, "Msg") })
+	})
+}
+
+func deletes(n ast.Node) bool { return callOf(n, "delete") }
+
+// placeByClosure: does a function literal look at where a message goes to?
+func placeByClosure(n ast.Node) bool {
+	f, ok := n.(*ast.FuncLit)
+	return ok && anyNode(f.Body, func(n ast.Node) bool {
+		s, ok := n.(*ast.SelectorExpr)
+		return ok && s.Sel.Name == "To"
+	})
+}
+
+func names(n ast.Node, name string) bool {
+	i, ok := n.(*ast.Ident)
+	return ok && i.Name == name
 }
 
 func callOf(n ast.Node, name string) bool {
