@@ -28,7 +28,8 @@ func landed() []layer {
 		{"field", []string{"api"}, []way{{"label", labelledLoopWithShifts}, {"variadic", variadic}}},
 		{"envelope", []string{"api", "field"}, []way{{"constant-table", constantTable}, {"array", arrayTable}}},
 		{"draw", []string{"api"}, []way{{"method-value", methodValue}, {"copy", copies}, {"conversion", cutProduct}}},
-		{"bag", []string{"api"}, []way{{"map", messagesByNumber}, {"delete", deletes}, {"closure", placeByClosure}}},
+		{"bag", []string{"api"}, []way{{"map", mapByInts("Msg")}, {"delete", deletes}, {"closure", placeByClosure}}},
+		{"clock", []string{"api"}, []way{{"map", mapByInts("timer")}, {"heap", ownHeap}, {"closure", comparesByClosure}}},
 	}
 }
 
@@ -219,13 +220,15 @@ func cutProduct(n ast.Node) bool {
 	})
 }
 
-// messagesByNumber: is a field of a struct a map of messages by ints?
-func messagesByNumber(n ast.Node) bool {
-	s, ok := n.(*ast.StructType)
-	return ok && slices.ContainsFunc(s.Fields.List, func(f *ast.Field) bool {
-		m, ok := f.Type.(*ast.MapType)
-		return ok && names(m.Key, "int") && anyNode(m.Value, func(n ast.Node) bool { return names(n, "Msg") })
-	})
+// mapByInts: is a field of a struct a map by ints, of what is named so?
+func mapByInts(value string) func(ast.Node) bool {
+	return func(n ast.Node) bool {
+		s, ok := n.(*ast.StructType)
+		return ok && slices.ContainsFunc(s.Fields.List, func(f *ast.Field) bool {
+			m, ok := f.Type.(*ast.MapType)
+			return ok && names(m.Key, "int") && anyNode(m.Value, func(n ast.Node) bool { return names(n, value) })
+		})
+	}
 }
 
 func deletes(n ast.Node) bool { return callOf(n, "delete") }
@@ -236,6 +239,34 @@ func placeByClosure(n ast.Node) bool {
 	return ok && anyNode(f.Body, func(n ast.Node) bool {
 		s, ok := n.(*ast.SelectorExpr)
 		return ok && s.Sel.Name == "To"
+	})
+}
+
+// ownHeap: does a file declare a heap as a list, and not take the library's?
+func ownHeap(n ast.Node) bool {
+	f, ok := n.(*ast.File)
+	return ok && !slices.ContainsFunc(f.Imports, func(s *ast.ImportSpec) bool { return s.Path.Value == `"container/heap"` }) &&
+		anyNode(f, func(n ast.Node) bool {
+			s, ok := n.(*ast.TypeSpec)
+			if !ok || s.Name.Name != "heap" {
+				return false
+			}
+			a, ok := s.Type.(*ast.ArrayType)
+			return ok && a.Len == nil
+		})
+}
+
+// comparesByClosure: does a function literal hold two whole values against each other?
+func comparesByClosure(n ast.Node) bool {
+	f, ok := n.(*ast.FuncLit)
+	return ok && anyNode(f.Body, func(n ast.Node) bool {
+		b, ok := n.(*ast.BinaryExpr)
+		if !ok || b.Op != token.EQL {
+			return false
+		}
+		_, left := b.X.(*ast.Ident)
+		_, right := b.Y.(*ast.Ident)
+		return left && right
 	})
 }
 
