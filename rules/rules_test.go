@@ -30,6 +30,8 @@ func landed() []layer {
 		{"draw", []string{"api"}, []way{{"method-value", methodValue}, {"copy", copies}, {"conversion", cutProduct}}},
 		{"bag", []string{"api"}, []way{{"map", mapByInts("Msg")}, {"delete", deletes}, {"closure", placeByClosure}}},
 		{"clock", []string{"api"}, []way{{"map", mapByInts("timer")}, {"heap", ownHeap}, {"closure", comparesByClosure}}},
+		{"oplog", []string{"api"}, []way{{"three-index", threeIndex}, {"closure", givesClosure}}},
+		{"op", []string{"api"}, nil}, // no layer: what several of them do with operations
 	}
 }
 
@@ -267,6 +269,20 @@ func comparesByClosure(n ast.Node) bool {
 		_, left := b.X.(*ast.Ident)
 		_, right := b.Y.(*ast.Ident)
 		return left && right
+	})
+}
+
+func threeIndex(n ast.Node) bool {
+	s, ok := n.(*ast.SliceExpr)
+	return ok && s.Slice3
+}
+
+// givesClosure: is a function literal given to a call?
+func givesClosure(n ast.Node) bool {
+	c, ok := n.(*ast.CallExpr)
+	return ok && slices.ContainsFunc(c.Args, func(e ast.Expr) bool {
+		_, ok := e.(*ast.FuncLit)
+		return ok
 	})
 }
 
