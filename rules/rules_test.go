@@ -31,6 +31,7 @@ func landed() []layer {
 		{"bag", []string{"api"}, []way{{"map", mapByInts("Msg")}, {"delete", deletes}, {"closure", placeByClosure}}},
 		{"clock", []string{"api"}, []way{{"map", mapByInts("timer")}, {"heap", ownHeap}, {"closure", comparesByClosure}}},
 		{"oplog", []string{"api"}, []way{{"three-index", threeIndex}, {"closure", givesClosure}}},
+		{"table", []string{"api"}, []way{{"array", arrayOf("memory")}, {"array-copied", copiesItself}, {"struct-compared", comparesStructs}}},
 		{"op", []string{"api"}, nil}, // no layer: what several of them do with operations
 	}
 }
@@ -224,13 +225,77 @@ func cutProduct(n ast.Node) bool {
 
 // mapByInts: is a field of a struct a map by ints, of what is named so?
 func mapByInts(value string) func(ast.Node) bool {
+	return fieldOf(func(e ast.Expr) bool {
+		m, ok := e.(*ast.MapType)
+		return ok && names(m.Key, "int") && anyNode(m.Value, func(n ast.Node) bool { return names(n, value) })
+	})
+}
+
+// arrayOf: is a field of a struct an array of what is named so?
+func arrayOf(value string) func(ast.Node) bool {
+	return fieldOf(func(e ast.Expr) bool {
+		a, ok := e.(*ast.ArrayType)
+		return ok && a.Len != nil && names(a.Elt, value)
+	})
+}
+
+// fieldOf: is a field of a struct of a type as is asked for?
+func fieldOf(asked func(ast.Expr) bool) func(ast.Node) bool {
 	return func(n ast.Node) bool {
 		s, ok := n.(*ast.StructType)
-		return ok && slices.ContainsFunc(s.Fields.List, func(f *ast.Field) bool {
-			m, ok := f.Type.(*ast.MapType)
-			return ok && names(m.Key, "int") && anyNode(m.Value, func(n ast.Node) bool { return names(n, value) })
-		})
+		return ok && slices.ContainsFunc(s.Fields.List, func(f *ast.Field) bool { return asked(f.Type) })
 	}
+}
+
+// copiesItself: does a method take what its receiver points to as a value?
+func copiesItself(n ast.Node) bool {
+	m, ok := n.(*ast.FuncDecl)
+	if !ok || m.Recv == nil || len(m.Recv.List[0].Names) == 0 {
+		return false
+	}
+	receiver := m.Recv.List[0].Names[0].Name
+	return anyNode(m.Body, func(n ast.Node) bool {
+		a, ok := n.(*ast.AssignStmt)
+		return ok && slices.ContainsFunc(a.Rhs, func(e ast.Expr) bool {
+			s, ok := e.(*ast.StarExpr)
+			return ok && names(s.X, receiver)
+		})
+	})
+}
+
+// comparesStructs: is a struct that a method of the file tells held against another one?
+func comparesStructs(n ast.Node) bool {
+	f, ok := n.(*ast.File)
+	return ok && anyNode(f, func(n ast.Node) bool {
+		b, ok := n.(*ast.BinaryExpr)
+		return ok && (b.Op == token.EQL || b.Op == token.NEQ) && (callsForStruct(f, b.X) || callsForStruct(f, b.Y))
+	})
+}
+
+// callsForStruct: is it a call of a method that the file declares, whose one answer is of a struct that the file declares?
+func callsForStruct(f *ast.File, e ast.Expr) bool {
+	c, ok := e.(*ast.CallExpr)
+	if !ok {
+		return false
+	}
+	s, ok := c.Fun.(*ast.SelectorExpr)
+	return ok && anyNode(f, func(n ast.Node) bool {
+		m, ok := n.(*ast.FuncDecl)
+		return ok && m.Recv != nil && m.Name.Name == s.Sel.Name && m.Type.Results != nil && len(m.Type.Results.List) == 1 &&
+			declaresStruct(f, m.Type.Results.List[0].Type)
+	})
+}
+
+func declaresStruct(f *ast.File, name ast.Expr) bool {
+	i, ok := name.(*ast.Ident)
+	return ok && anyNode(f, func(n ast.Node) bool {
+		t, ok := n.(*ast.TypeSpec)
+		if !ok || t.Name.Name != i.Name {
+			return false
+		}
+		_, ok = t.Type.(*ast.StructType)
+		return ok
+	})
 }
 
 func deletes(n ast.Node) bool { return callOf(n, "delete") }
