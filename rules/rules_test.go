@@ -32,6 +32,7 @@ func landed() []layer {
 		{"clock", []string{"api"}, []way{{"map", mapByInts("timer")}, {"heap", ownHeap}, {"closure", comparesByClosure}}},
 		{"oplog", []string{"api"}, []way{{"three-index", threeIndex}, {"closure", givesClosure}}},
 		{"table", []string{"api"}, []way{{"array", arrayOf("memory")}, {"array-copied", copiesItself}, {"struct-compared", comparesStructs}}},
+		{"view", []string{"api"}, []way{{"shift", setsBits}, {"range-integer", rangeOver("n")}, {"closure", comparesFieldsByClosure("Last", "Ops")}}},
 		{"op", []string{"api"}, nil}, // no layer: what several of them do with operations
 	}
 }
@@ -303,10 +304,7 @@ func deletes(n ast.Node) bool { return callOf(n, "delete") }
 // placeByClosure: does a function literal look at where a message goes to?
 func placeByClosure(n ast.Node) bool {
 	f, ok := n.(*ast.FuncLit)
-	return ok && anyNode(f.Body, func(n ast.Node) bool {
-		s, ok := n.(*ast.SelectorExpr)
-		return ok && s.Sel.Name == "To"
-	})
+	return ok && anyNode(f.Body, selects("To"))
 }
 
 // ownHeap: does a file declare a heap as a list, and not take the library's?
@@ -335,6 +333,67 @@ func comparesByClosure(n ast.Node) bool {
 		_, right := b.Y.(*ast.Ident)
 		return left && right
 	})
+}
+
+// setsBits: is something set by or, and do shifts make what?
+func setsBits(n ast.Node) bool {
+	f, ok := n.(*ast.File)
+	return ok && anyNode(f, shift) && anyNode(f, func(n ast.Node) bool {
+		a, ok := n.(*ast.AssignStmt)
+		return ok && a.Tok == token.OR_ASSIGN
+	})
+}
+
+// rangeOver: is there a range over a field that is named so, and an int?
+func rangeOver(field string) func(ast.Node) bool {
+	return func(n ast.Node) bool {
+		f, ok := n.(*ast.File)
+		return ok && anyNode(f, fieldNamed(field, "int")) && anyNode(f, func(n ast.Node) bool {
+			r, ok := n.(*ast.RangeStmt)
+			return ok && selects(field)(r.X)
+		})
+	}
+}
+
+// fieldNamed: has a struct a field of that name and type?
+func fieldNamed(name, of string) func(ast.Node) bool {
+	return func(n ast.Node) bool {
+		s, ok := n.(*ast.StructType)
+		return ok && slices.ContainsFunc(s.Fields.List, func(f *ast.Field) bool {
+			return names(f.Type, of) && slices.ContainsFunc(f.Names, func(i *ast.Ident) bool { return i.Name == name })
+		})
+	}
+}
+
+// comparesFieldsByClosure: does a function literal that a name stands for look at all of those fields, and at each of two things?
+func comparesFieldsByClosure(fields ...string) func(ast.Node) bool {
+	return func(n ast.Node) bool {
+		a, ok := n.(*ast.AssignStmt)
+		return ok && slices.ContainsFunc(a.Rhs, func(e ast.Expr) bool {
+			f, ok := e.(*ast.FuncLit)
+			return ok && !slices.ContainsFunc(fields, func(field string) bool { return count(f.Body, selects(field)) < 2 })
+		})
+	}
+}
+
+// count: how many nodes below root are as is asked for.
+func count(root ast.Node, has func(ast.Node) bool) int {
+	n := 0
+	ast.Inspect(root, func(x ast.Node) bool {
+		if x != nil && has(x) {
+			n++
+		}
+		return true
+	})
+	return n
+}
+
+// selects: is it a field, or a method, of that name?
+func selects(name string) func(ast.Node) bool {
+	return func(n ast.Node) bool {
+		s, ok := n.(*ast.SelectorExpr)
+		return ok && s.Sel.Name == name
+	}
 }
 
 func threeIndex(n ast.Node) bool {
