@@ -33,6 +33,7 @@ func landed() []layer {
 		{"oplog", []string{"api"}, []way{{"three-index", threeIndex}, {"closure", givesClosure}}},
 		{"table", []string{"api"}, []way{{"array", arrayOf("memory")}, {"array-copied", copiesItself}, {"struct-compared", comparesStructs}}},
 		{"view", []string{"api"}, []way{{"shift", setsBits}, {"range-integer", rangeOver("n")}, {"closure", comparesFieldsByClosure("Last", "Ops")}}},
+		{"note", []string{"api", "field", "envelope"}, []way{{"function-field", functionField("read")}, {"closure", closureInField("read")}, {"compared", comparesWritten}}},
 		{"op", []string{"api"}, nil}, // no layer: what several of them do with operations
 	}
 }
@@ -394,6 +395,49 @@ func selects(name string) func(ast.Node) bool {
 		s, ok := n.(*ast.SelectorExpr)
 		return ok && s.Sel.Name == name
 	}
+}
+
+// functionField: has a struct a field of that name that is a function, and is it called through it?
+func functionField(name string) func(ast.Node) bool {
+	isFunction := func(n ast.Node) bool {
+		s, ok := n.(*ast.StructType)
+		return ok && slices.ContainsFunc(s.Fields.List, func(f *ast.Field) bool {
+			_, ok := f.Type.(*ast.FuncType)
+			return ok && slices.ContainsFunc(f.Names, func(i *ast.Ident) bool { return i.Name == name })
+		})
+	}
+	isCalled := func(n ast.Node) bool {
+		c, ok := n.(*ast.CallExpr)
+		return ok && selects(name)(c.Fun)
+	}
+	return func(n ast.Node) bool {
+		f, ok := n.(*ast.File)
+		return ok && anyNode(f, isFunction) && anyNode(f, isCalled)
+	}
+}
+
+// closureInField: is a field of that name made a function literal?
+func closureInField(name string) func(ast.Node) bool {
+	return func(n ast.Node) bool {
+		k, ok := n.(*ast.KeyValueExpr)
+		if !ok || !names(k.Key, name) {
+			return false
+		}
+		_, ok = k.Value.(*ast.FuncLit)
+		return ok
+	}
+}
+
+// comparesWritten: are bytes that a call tells held against others?
+func comparesWritten(n ast.Node) bool {
+	c, ok := n.(*ast.CallExpr)
+	if !ok || !selects("Equal")(c.Fun) {
+		return false
+	}
+	return slices.ContainsFunc(c.Args, func(e ast.Expr) bool {
+		_, ok := e.(*ast.CallExpr)
+		return ok
+	})
 }
 
 func threeIndex(n ast.Node) bool {
