@@ -1,4 +1,4 @@
-// Package op holds operations against each other and copies them: their lists of steps make them more than values, to every layer that keeps some.
+// Package op holds operations against each other and copies them, and messages that hold some: their lists make them more than values, to every layer that keeps or tells some.
 package op
 
 import (
@@ -28,4 +28,12 @@ func Copies(l []api.Op) []api.Op {
 		l[i] = Copy(o)
 	}
 	return l
+}
+
+// CopyMsg: m, its lists in new memory.
+func CopyMsg(m api.Msg) api.Msg {
+	m.Op = Copy(m.Op)
+	m.Ops = Copies(m.Ops)
+	m.Incs = slices.Clone(m.Incs)
+	return m
 }

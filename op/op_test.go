@@ -74,3 +74,37 @@ func TestCopiesAreNewMemory(t *testing.T) {
 		t.Error("Copies of none, or of an empty one, are others")
 	}
 }
+
+func TestCopyMsgIsNewMemory(t *testing.T) {
+	few := []api.Step{{Name: "one", Stub: 1}, {Name: "two", Stub: 2}}
+	shared := api.Op{Kind: 1, Def: api.Def{Steps: few}}
+	made := func() api.Msg {
+		few := slices.Clone(few)
+		o := shared
+		o.Def.Steps = few
+		return api.Msg{Kind: 7, From: 1, To: 2, View: 3, Lead: true, Op: o, Ops: []api.Op{o, o, {}}, Incs: []int{4, 5}, Reply: api.Reply{Saga: 6}, Command: api.Command{Try: 8}}
+	}
+	m := made()
+	c, other := op.CopyMsg(m), op.CopyMsg(m)
+	if !reflect.DeepEqual(c, made()) {
+		t.Fatalf("the copy is %v", c)
+	}
+	lists := [][]api.Step{c.Op.Def.Steps, c.Ops[0].Def.Steps, c.Ops[1].Def.Steps}
+	for i, l := range lists {
+		for j := range l[:cap(l)] {
+			l[:cap(l)][j] = api.Step{Name: "other"}
+		}
+		for _, rest := range lists[i+1:] {
+			if !slices.Equal(rest, few) {
+				t.Errorf("list %d that was written over shares memory: %v", i, lists)
+			}
+		}
+	}
+	c.Ops[2], c.Incs[1] = api.Op{Kind: 99}, 99
+	if !reflect.DeepEqual(m, made()) || !reflect.DeepEqual(other, made()) {
+		t.Errorf("a copy that was written over shares memory: %v, %v", m, other)
+	}
+	if empty := op.CopyMsg(api.Msg{}); !reflect.DeepEqual(empty, api.Msg{}) {
+		t.Errorf("the copy of none is %v", empty)
+	}
+}

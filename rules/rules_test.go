@@ -34,7 +34,8 @@ func landed() []layer {
 		{"table", []string{"api"}, []way{{"array", arrayOf("memory")}, {"array-copied", copiesItself}, {"struct-compared", comparesStructs}}},
 		{"view", []string{"api"}, []way{{"shift", setsBits}, {"range-integer", rangeOver("n")}, {"closure", comparesFieldsByClosure("Last", "Ops")}}},
 		{"note", []string{"api", "field", "envelope"}, []way{{"function-field", functionField("read")}, {"closure", closureInField("read")}, {"compared", comparesWritten}}},
-		{"op", []string{"api"}, nil}, // no layer: what several of them do with operations
+		{"vr", []string{"api", "view"}, []way{{"switch", switchOver("View", "Phase")}, {"map", mapBy("From")}, {"closure", givesClosure}}},
+		{"op", []string{"api"}, nil}, // no layer: what several of them do with operations, and with messages that hold some
 	}
 }
 
@@ -438,6 +439,41 @@ func comparesWritten(n ast.Node) bool {
 		_, ok := e.(*ast.CallExpr)
 		return ok
 	})
+}
+
+// switchOver: is there a switch whose cases look at all of those fields?
+func switchOver(fields ...string) func(ast.Node) bool {
+	return func(n ast.Node) bool {
+		s, ok := n.(*ast.SwitchStmt)
+		return ok && !slices.ContainsFunc(fields, func(field string) bool {
+			return !slices.ContainsFunc(s.Body.List, func(c ast.Stmt) bool {
+				return slices.ContainsFunc(c.(*ast.CaseClause).List, func(e ast.Expr) bool { return anyNode(e, selects(field)) })
+			})
+		})
+	}
+}
+
+// mapBy: does a function make a map, and store into it by that field?
+func mapBy(field string) func(ast.Node) bool {
+	makesMap := func(n ast.Node) bool {
+		c, ok := n.(*ast.CompositeLit)
+		if !ok {
+			return false
+		}
+		_, ok = c.Type.(*ast.MapType)
+		return ok
+	}
+	stores := func(n ast.Node) bool {
+		a, ok := n.(*ast.AssignStmt)
+		return ok && slices.ContainsFunc(a.Lhs, func(e ast.Expr) bool {
+			i, ok := e.(*ast.IndexExpr)
+			return ok && selects(field)(i.Index)
+		})
+	}
+	return func(n ast.Node) bool {
+		f, ok := n.(*ast.FuncDecl)
+		return ok && anyNode(f, makesMap) && anyNode(f, stores)
+	}
 }
 
 func threeIndex(n ast.Node) bool {
