@@ -35,6 +35,7 @@ func landed() []layer {
 		{"view", []string{"api"}, []way{{"shift", setsBits}, {"range-integer", rangeOver("n")}, {"closure", comparesFieldsByClosure("Last", "Ops")}}},
 		{"note", []string{"api", "field", "envelope"}, []way{{"function-field", functionField("read")}, {"closure", closureInField("read")}, {"compared", comparesWritten}}},
 		{"vr", []string{"api", "view"}, []way{{"switch", switchOver("View", "Phase")}, {"map", mapBy("From")}, {"closure", givesClosure}}},
+		{"core", []string{"api", "bag", "clock", "oplog", "view", "vr"}, []way{{"switch", switchOfMethods("Kind")}, {"map", mapByInts("heard")}, {"closure", givesClosure}}},
 		{"op", []string{"api"}, nil}, // no layer: what several of them do with operations, and with messages that hold some
 	}
 }
@@ -450,6 +451,26 @@ func switchOver(fields ...string) func(ast.Node) bool {
 				return slices.ContainsFunc(c.(*ast.CaseClause).List, func(e ast.Expr) bool { return anyNode(e, selects(field)) })
 			})
 		})
+	}
+}
+
+// switchOfMethods: is there a switch over that field, each case of which calls a method of its own?
+func switchOfMethods(field string) func(ast.Node) bool {
+	return func(n ast.Node) bool {
+		s, ok := n.(*ast.SwitchStmt)
+		if !ok || s.Tag == nil || !selects(field)(s.Tag) {
+			return false
+		}
+		called := map[string]bool{}
+		ast.Inspect(s.Body, func(n ast.Node) bool {
+			if c, ok := n.(*ast.CallExpr); ok {
+				if m, ok := c.Fun.(*ast.SelectorExpr); ok {
+					called[m.Sel.Name] = true
+				}
+			}
+			return true
+		})
+		return len(s.Body.List) > 1 && len(called) == len(s.Body.List)
 	}
 }
 
