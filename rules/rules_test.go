@@ -36,6 +36,7 @@ func landed() []layer {
 		{"note", []string{"api", "field", "envelope"}, []way{{"function-field", functionField("read")}, {"closure", closureInField("read")}, {"compared", comparesWritten}}},
 		{"vr", []string{"api", "view"}, []way{{"switch", switchOver("View", "Phase")}, {"map", mapBy("From")}, {"closure", givesClosure}}},
 		{"core", []string{"api", "bag", "clock", "oplog", "view", "vr"}, []way{{"switch", switchOfMethods("Kind")}, {"map", mapByInts("heard")}, {"closure", givesClosure}}},
+		{"lexer", []string{"api"}, []way{{"closure", answersClosure("rune", "bool")}, {"range-string", rangeOverText("Name")}, {"iota", countsFrom("Word")}}},
 		{"op", []string{"api"}, nil}, // no layer: what several of them do with operations, and with messages that hold some
 	}
 }
@@ -509,6 +510,48 @@ func givesClosure(n ast.Node) bool {
 		_, ok := e.(*ast.FuncLit)
 		return ok
 	})
+}
+
+// answersClosure: is a function literal of that argument and that answer what a function answers?
+func answersClosure(argument, answer string) func(ast.Node) bool {
+	of := func(l *ast.FieldList, name string) bool {
+		return l != nil && len(l.List) == 1 && len(l.List[0].Names) <= 1 && names(l.List[0].Type, name)
+	}
+	return func(n ast.Node) bool {
+		r, ok := n.(*ast.ReturnStmt)
+		return ok && slices.ContainsFunc(r.Results, func(e ast.Expr) bool {
+			f, ok := e.(*ast.FuncLit)
+			return ok && of(f.Type.Params, argument) && of(f.Type.Results, answer)
+		})
+	}
+}
+
+// rangeOverText: is the one argument of the function of that name a string, and gone over by a range?
+func rangeOverText(function string) func(ast.Node) bool {
+	return func(n ast.Node) bool {
+		f, ok := n.(*ast.FuncDecl)
+		if !ok || f.Recv != nil || f.Name.Name != function || len(f.Type.Params.List) != 1 {
+			return false
+		}
+		p := f.Type.Params.List[0]
+		return names(p.Type, "string") && len(p.Names) == 1 && anyNode(f.Body, func(n ast.Node) bool {
+			r, ok := n.(*ast.RangeStmt)
+			return ok && names(r.X, p.Names[0].Name)
+		})
+	}
+}
+
+// countsFrom: are there constants of which that one counts by iota, and those behind it go on so?
+func countsFrom(first string) func(ast.Node) bool {
+	return func(n ast.Node) bool {
+		g, ok := n.(*ast.GenDecl)
+		if !ok || g.Tok != token.CONST || len(g.Specs) < 2 {
+			return false
+		}
+		one := g.Specs[0].(*ast.ValueSpec)
+		return one.Names[0].Name == first && anyNode(one, func(n ast.Node) bool { return names(n, "iota") }) &&
+			!slices.ContainsFunc(g.Specs[1:], func(s ast.Spec) bool { return len(s.(*ast.ValueSpec).Values) > 0 })
+	}
 }
 
 func names(n ast.Node, name string) bool {
