@@ -37,6 +37,7 @@ func landed() []layer {
 		{"vr", []string{"api", "view"}, []way{{"switch", switchOver("View", "Phase")}, {"map", mapBy("From")}, {"closure", givesClosure}}},
 		{"core", []string{"api", "bag", "clock", "oplog", "view", "vr"}, []way{{"switch", switchOfMethods("Kind")}, {"map", mapByInts("heard")}, {"closure", givesClosure}}},
 		{"lexer", []string{"api"}, []way{{"closure", answersClosure("rune", "bool")}, {"range-string", rangeOverText("Name")}, {"iota", countsFrom("Word")}}},
+		{"def", []string{"api", "lexer"}, []way{{"struct-methods", methodsOf("reader")}, {"constant-table", constantTable}, {"closure", answersClosure("Token", "bool")}}},
 		{"op", []string{"api"}, nil}, // no layer: what several of them do with operations, and with messages that hold some
 	}
 }
@@ -515,7 +516,11 @@ func givesClosure(n ast.Node) bool {
 // answersClosure: is a function literal of that argument and that answer what a function answers?
 func answersClosure(argument, answer string) func(ast.Node) bool {
 	of := func(l *ast.FieldList, name string) bool {
-		return l != nil && len(l.List) == 1 && len(l.List[0].Names) <= 1 && names(l.List[0].Type, name)
+		if l == nil || len(l.List) != 1 || len(l.List[0].Names) > 1 {
+			return false
+		}
+		one := l.List[0].Type
+		return names(one, name) || selects(name)(one)
 	}
 	return func(n ast.Node) bool {
 		r, ok := n.(*ast.ReturnStmt)
@@ -523,6 +528,18 @@ func answersClosure(argument, answer string) func(ast.Node) bool {
 			f, ok := e.(*ast.FuncLit)
 			return ok && of(f.Type.Params, argument) && of(f.Type.Results, answer)
 		})
+	}
+}
+
+// methodsOf: is a struct of that name declared, and are there methods of it?
+func methodsOf(name string) func(ast.Node) bool {
+	isMethod := func(d ast.Decl) bool {
+		m, ok := d.(*ast.FuncDecl)
+		return ok && m.Recv != nil && anyNode(m.Recv, func(n ast.Node) bool { return names(n, name) })
+	}
+	return func(n ast.Node) bool {
+		f, ok := n.(*ast.File)
+		return ok && declaresStruct(f, ast.NewIdent(name)) && slices.ContainsFunc(f.Decls, isMethod)
 	}
 }
 
