@@ -38,6 +38,7 @@ func landed() []layer {
 		{"core", []string{"api", "bag", "clock", "oplog", "view", "vr"}, []way{{"switch", switchOfMethods("Kind")}, {"map", mapByInts("heard")}, {"closure", givesClosure}}},
 		{"lexer", []string{"api"}, []way{{"closure", answersClosure("rune", "bool")}, {"range-string", rangeOverText("Name")}, {"iota", countsFrom("Word")}}},
 		{"def", []string{"api", "lexer"}, []way{{"struct-methods", methodsOf("reader")}, {"constant-table", constantTable}, {"closure", answersClosure("Token", "bool")}}},
+		{"plan", []string{"api", "def"}, []way{{"closure", sumsByClosure}, {"range-function", goesDownByFunction}}},
 		{"op", []string{"api"}, nil}, // no layer: what several of them do with operations, and with messages that hold some
 	}
 }
@@ -569,6 +570,59 @@ func countsFrom(first string) func(ast.Node) bool {
 		return one.Names[0].Name == first && anyNode(one, func(n ast.Node) bool { return names(n, "iota") }) &&
 			!slices.ContainsFunc(g.Specs[1:], func(s ast.Spec) bool { return len(s.(*ast.ValueSpec).Values) > 0 })
 	}
+}
+
+// sumsByClosure: is a function literal given to a function that the file declares, which asks what it is given, and adds up?
+func sumsByClosure(n ast.Node) bool {
+	f, ok := n.(*ast.File)
+	return ok && anyNode(f, func(n ast.Node) bool {
+		c, ok := n.(*ast.CallExpr)
+		return ok && givesClosure(c) && calls(f, c, func(m *ast.FuncDecl) bool { return anyNode(m.Body, addsAnswerOf(m.Type.Params)) })
+	})
+}
+
+// addsAnswerOf: is something added that a call of one of those arguments answers?
+func addsAnswerOf(l *ast.FieldList) func(ast.Node) bool {
+	return func(n ast.Node) bool {
+		a, ok := n.(*ast.AssignStmt)
+		return ok && a.Tok == token.ADD_ASSIGN && slices.ContainsFunc(l.List, func(p *ast.Field) bool {
+			_, ok := p.Type.(*ast.FuncType)
+			return ok && slices.ContainsFunc(p.Names, func(i *ast.Ident) bool {
+				return slices.ContainsFunc(a.Rhs, func(e ast.Expr) bool { return callOf(e, i.Name) })
+			})
+		})
+	}
+}
+
+// goesDownByFunction: is there a range over what a function that the file declares answers, which is one that goes down?
+func goesDownByFunction(n ast.Node) bool {
+	answersGoingDown := func(n ast.Node) bool {
+		r, ok := n.(*ast.ReturnStmt)
+		return ok && len(r.Results) == 1 && anyNode(r.Results[0], func(n ast.Node) bool {
+			f, ok := n.(*ast.FuncLit)
+			return ok && anyNode(f.Body, func(n ast.Node) bool {
+				s, ok := n.(*ast.IncDecStmt)
+				return ok && s.Tok == token.DEC
+			})
+		})
+	}
+	f, ok := n.(*ast.File)
+	return ok && anyNode(f, func(n ast.Node) bool {
+		r, ok := n.(*ast.RangeStmt)
+		if !ok {
+			return false
+		}
+		c, ok := r.X.(*ast.CallExpr)
+		return ok && calls(f, c, func(m *ast.FuncDecl) bool { return anyNode(m.Body, answersGoingDown) })
+	})
+}
+
+// calls: is it a call of a function that the file declares, and that is as is asked for?
+func calls(f *ast.File, c *ast.CallExpr, asked func(*ast.FuncDecl) bool) bool {
+	return slices.ContainsFunc(f.Decls, func(d ast.Decl) bool {
+		m, ok := d.(*ast.FuncDecl)
+		return ok && m.Recv == nil && names(c.Fun, m.Name.Name) && asked(m)
+	})
 }
 
 func names(n ast.Node, name string) bool {
