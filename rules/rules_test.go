@@ -38,7 +38,8 @@ func landed() []layer {
 		{"core", []string{"api", "bag", "clock", "oplog", "view", "vr"}, []way{{"switch", switchOfMethods("Kind")}, {"map", mapByInts("heard")}, {"closure", givesClosure}}},
 		{"lexer", []string{"api"}, []way{{"closure", answersClosure("rune", "bool")}, {"range-string", rangeOverText("Name")}, {"iota", countsFrom("Word")}}},
 		{"def", []string{"api", "lexer"}, []way{{"struct-methods", methodsOf("reader")}, {"constant-table", constantTable}, {"closure", answersClosure("Token", "bool")}}},
-		{"plan", []string{"api", "def"}, []way{{"closure", sumsByClosure}, {"range-function", goesDownByFunction}}},
+		{"plan", []string{"api", "def"}, []way{{"closure", givesClosureTo(addsAnswer)}, {"range-function", goesDownByFunction}}},
+		{"saga", []string{"api", "def", "plan"}, []way{{"array-compared", comparesArrays("Hit")}, {"closure", givesClosureTo(returnsAnswer)}}},
 		{"op", []string{"api"}, nil}, // no layer: what several of them do with operations, and with messages that hold some
 	}
 }
@@ -572,25 +573,57 @@ func countsFrom(first string) func(ast.Node) bool {
 	}
 }
 
-// sumsByClosure: is a function literal given to a function that the file declares, which asks what it is given, and adds up?
-func sumsByClosure(n ast.Node) bool {
-	f, ok := n.(*ast.File)
-	return ok && anyNode(f, func(n ast.Node) bool {
-		c, ok := n.(*ast.CallExpr)
-		return ok && givesClosure(c) && calls(f, c, func(m *ast.FuncDecl) bool { return anyNode(m.Body, addsAnswerOf(m.Type.Params)) })
-	})
-}
-
-// addsAnswerOf: is something added that a call of one of those arguments answers?
-func addsAnswerOf(l *ast.FieldList) func(ast.Node) bool {
+// givesClosureTo: is a function literal given to a function that the file declares, which does what is asked for with an answer of what it is given?
+func givesClosureTo(does func(ast.Node, func(ast.Node) bool) bool) func(ast.Node) bool {
 	return func(n ast.Node) bool {
-		a, ok := n.(*ast.AssignStmt)
-		return ok && a.Tok == token.ADD_ASSIGN && slices.ContainsFunc(l.List, func(p *ast.Field) bool {
-			_, ok := p.Type.(*ast.FuncType)
-			return ok && slices.ContainsFunc(p.Names, func(i *ast.Ident) bool {
-				return slices.ContainsFunc(a.Rhs, func(e ast.Expr) bool { return callOf(e, i.Name) })
+		f, ok := n.(*ast.File)
+		return ok && anyNode(f, func(n ast.Node) bool {
+			c, ok := n.(*ast.CallExpr)
+			return ok && givesClosure(c) && calls(f, c, func(m *ast.FuncDecl) bool {
+				return anyNode(m.Body, func(n ast.Node) bool { return does(n, callOfArgument(m.Type.Params)) })
 			})
 		})
+	}
+}
+
+// callOfArgument: is it a call of one of those arguments?
+func callOfArgument(l *ast.FieldList) func(ast.Node) bool {
+	return func(n ast.Node) bool {
+		return slices.ContainsFunc(l.List, func(p *ast.Field) bool {
+			_, ok := p.Type.(*ast.FuncType)
+			return ok && slices.ContainsFunc(p.Names, func(i *ast.Ident) bool { return callOf(n, i.Name) })
+		})
+	}
+}
+
+// addsAnswer: is something added that such a call answers?
+func addsAnswer(n ast.Node, call func(ast.Node) bool) bool {
+	a, ok := n.(*ast.AssignStmt)
+	return ok && a.Tok == token.ADD_ASSIGN && slices.ContainsFunc(a.Rhs, func(e ast.Expr) bool { return call(e) })
+}
+
+// returnsAnswer: is what such a call answers told?
+func returnsAnswer(n ast.Node, call func(ast.Node) bool) bool {
+	r, ok := n.(*ast.ReturnStmt)
+	return ok && anyNode(r, call)
+}
+
+// comparesArrays: has a struct a field of that name that is an array, and is it held against another array?
+func comparesArrays(field string) func(ast.Node) bool {
+	isArray := func(n ast.Node) bool {
+		s, ok := n.(*ast.StructType)
+		return ok && slices.ContainsFunc(s.Fields.List, func(f *ast.Field) bool {
+			a, ok := f.Type.(*ast.ArrayType)
+			return ok && a.Len != nil && slices.ContainsFunc(f.Names, func(i *ast.Ident) bool { return i.Name == field })
+		})
+	}
+	isCompared := func(n ast.Node) bool {
+		b, ok := n.(*ast.BinaryExpr)
+		return ok && (b.Op == token.EQL || b.Op == token.NEQ) && (selects(field)(b.X) || selects(field)(b.Y))
+	}
+	return func(n ast.Node) bool {
+		f, ok := n.(*ast.File)
+		return ok && anyNode(f, isArray) && anyNode(f, isCompared)
 	}
 }
 
