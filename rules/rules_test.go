@@ -40,6 +40,7 @@ func landed() []layer {
 		{"def", []string{"api", "lexer"}, []way{{"struct-methods", methodsOf("reader")}, {"constant-table", constantTable}, {"closure", answersClosure("Token", "bool")}}},
 		{"plan", []string{"api", "def"}, []way{{"closure", givesClosureTo(addsAnswer)}, {"range-function", goesDownByFunction}}},
 		{"saga", []string{"api", "def", "plan"}, []way{{"array-compared", comparesArrays("Hit")}, {"closure", givesClosureTo(returnsAnswer)}}},
+		{"book", []string{"api", "saga"}, []way{{"map", mapByInts("Saga")}, {"range-map", rangeOverMap("Saga")}, {"closure", countsByClosure}}},
 		{"op", []string{"api"}, nil}, // no layer: what several of them do with operations, and with messages that hold some
 	}
 }
@@ -625,6 +626,41 @@ func comparesArrays(field string) func(ast.Node) bool {
 		f, ok := n.(*ast.File)
 		return ok && anyNode(f, isArray) && anyNode(f, isCompared)
 	}
+}
+
+// rangeOverMap: is a field of a struct that is a map by ints of what is named so gone over by a range?
+func rangeOverMap(value string) func(ast.Node) bool {
+	return func(n ast.Node) bool {
+		f, ok := n.(*ast.File)
+		return ok && anyNode(f, func(n ast.Node) bool {
+			s, ok := n.(*ast.StructType)
+			return ok && mapByInts(value)(s) && slices.ContainsFunc(s.Fields.List, func(m *ast.Field) bool {
+				_, isMap := m.Type.(*ast.MapType)
+				return isMap && anyNode(f, func(n ast.Node) bool {
+					r, ok := n.(*ast.RangeStmt)
+					return ok && selects(m.Names[0].Name)(r.X)
+				})
+			})
+		})
+	}
+}
+
+// countsByClosure: is a function literal given to a method that the file declares, which counts by a range what it says of?
+func countsByClosure(n ast.Node) bool {
+	f, ok := n.(*ast.File)
+	return ok && slices.ContainsFunc(f.Decls, func(d ast.Decl) bool {
+		m, ok := d.(*ast.FuncDecl)
+		return ok && m.Recv != nil && anyNode(m.Body, func(n ast.Node) bool {
+			r, ok := n.(*ast.RangeStmt)
+			return ok && anyNode(r.Body, callOfArgument(m.Type.Params)) && anyNode(r.Body, func(n ast.Node) bool {
+				i, ok := n.(*ast.IncDecStmt)
+				return ok && i.Tok == token.INC
+			})
+		}) && anyNode(f, func(n ast.Node) bool {
+			c, ok := n.(*ast.CallExpr)
+			return ok && selects(m.Name.Name)(c.Fun) && givesClosure(c)
+		})
+	})
 }
 
 // goesDownByFunction: is there a range over what a function that the file declares answers, which is one that goes down?
