@@ -41,6 +41,7 @@ func landed() []layer {
 		{"plan", []string{"api", "def"}, []way{{"closure", givesClosureTo(addsAnswer)}, {"range-function", goesDownByFunction}}},
 		{"saga", []string{"api", "def", "plan"}, []way{{"array-compared", comparesArrays("Hit")}, {"closure", givesClosureTo(returnsAnswer)}}},
 		{"book", []string{"api", "saga"}, []way{{"map", mapByInts("Saga")}, {"range-map", rangeOverMap("Saga")}, {"closure", countsByClosure}}},
+		{"image", []string{"api", "field", "envelope", "note", "saga", "book"}, []way{{"variadic", variadicOf("Field")}, {"closure", readsByClosure}, {"strings-compared", comparesAsStrings}}},
 		{"op", []string{"api"}, nil}, // no layer: what several of them do with operations, and with messages that hold some
 	}
 }
@@ -166,6 +167,32 @@ func variadic(n ast.Node) bool {
 		_, ok := p.Type.(*ast.Ellipsis)
 		return ok
 	})
+}
+
+// variadicOf: is a function that writes of as many as one likes of what is named so?
+func variadicOf(name string) func(ast.Node) bool {
+	return func(n ast.Node) bool {
+		f, ok := n.(*ast.FuncDecl)
+		return ok && variadic(f.Type) && anyNode(f.Type, selects(name)) && anyNode(f.Body, selects("Write"))
+	}
+}
+
+// readsByClosure: is a function literal that looks at a field's number given to a call?
+func readsByClosure(n ast.Node) bool {
+	c, ok := n.(*ast.CallExpr)
+	return ok && givesClosure(c) && slices.ContainsFunc(c.Args, func(e ast.Expr) bool {
+		f, ok := e.(*ast.FuncLit)
+		return ok && anyNode(f.Body, func(n ast.Node) bool {
+			s, ok := n.(*ast.SwitchStmt)
+			return ok && s.Tag != nil && selects("Num")(s.Tag)
+		})
+	})
+}
+
+// comparesAsStrings: are two things held against each other that both became strings?
+func comparesAsStrings(n ast.Node) bool {
+	b, ok := n.(*ast.BinaryExpr)
+	return ok && (b.Op == token.EQL || b.Op == token.NEQ) && callOf(b.X, "string") && callOf(b.Y, "string")
 }
 
 func constantTable(n ast.Node) bool { return slices.ContainsFunc(tables(n), ofConstants) }
