@@ -39,9 +39,10 @@ func landed() []layer {
 		{"lexer", []string{"api"}, []way{{"closure", answersClosure("rune", "bool")}, {"range-string", rangeOverText("Name")}, {"iota", countsFrom("Word")}}},
 		{"def", []string{"api", "lexer"}, []way{{"struct-methods", methodsOf("reader")}, {"constant-table", constantTable}, {"closure", answersClosure("Token", "bool")}}},
 		{"plan", []string{"api", "def"}, []way{{"closure", givesClosureTo(addsAnswer)}, {"range-function", goesDownByFunction}}},
-		{"saga", []string{"api", "def", "plan"}, []way{{"array-compared", comparesArrays("Hit")}, {"closure", givesClosureTo(returnsAnswer)}}},
+		{"saga", []string{"api", "def", "plan"}, []way{{"array-compared", comparesField("Hit", isArray)}, {"closure", givesClosureTo(returnsAnswer)}}},
 		{"book", []string{"api", "saga"}, []way{{"map", mapByInts("Saga")}, {"range-map", rangeOverMap("Saga")}, {"closure", countsByClosure}}},
 		{"image", []string{"api", "field", "envelope", "note", "saga", "book"}, []way{{"variadic", variadicOf("Field")}, {"closure", readsByClosure}, {"strings-compared", comparesAsStrings}}},
+		{"outbox", []string{"api", "saga", "book"}, []way{{"map", mapByInts("place")}, {"struct-compared", comparesField("command", isCommand)}, {"in-order", sortsKeys}}},
 		{"op", []string{"api"}, nil}, // no layer: what several of them do with operations, and with messages that hold some
 	}
 }
@@ -636,13 +637,12 @@ func returnsAnswer(n ast.Node, call func(ast.Node) bool) bool {
 	return ok && anyNode(r, call)
 }
 
-// comparesArrays: has a struct a field of that name that is an array, and is it held against another array?
-func comparesArrays(field string) func(ast.Node) bool {
-	isArray := func(n ast.Node) bool {
+// comparesField: has a struct a field of that name, of a type as is asked for, and is it held against another one?
+func comparesField(field string, of func(ast.Expr) bool) func(ast.Node) bool {
+	isOf := func(n ast.Node) bool {
 		s, ok := n.(*ast.StructType)
 		return ok && slices.ContainsFunc(s.Fields.List, func(f *ast.Field) bool {
-			a, ok := f.Type.(*ast.ArrayType)
-			return ok && a.Len != nil && slices.ContainsFunc(f.Names, func(i *ast.Ident) bool { return i.Name == field })
+			return of(f.Type) && slices.ContainsFunc(f.Names, func(i *ast.Ident) bool { return i.Name == field })
 		})
 	}
 	isCompared := func(n ast.Node) bool {
@@ -651,8 +651,24 @@ func comparesArrays(field string) func(ast.Node) bool {
 	}
 	return func(n ast.Node) bool {
 		f, ok := n.(*ast.File)
-		return ok && anyNode(f, isArray) && anyNode(f, isCompared)
+		return ok && anyNode(f, isOf) && anyNode(f, isCompared)
 	}
+}
+
+func isArray(e ast.Expr) bool {
+	a, ok := e.(*ast.ArrayType)
+	return ok && a.Len != nil
+}
+
+func isCommand(e ast.Expr) bool { return selects("Command")(e) }
+
+// sortsKeys: are the keys of a field that is a map put in order?
+func sortsKeys(n ast.Node) bool {
+	c, ok := n.(*ast.CallExpr)
+	return ok && selects("Sorted")(c.Fun) && anyNode(c, func(n ast.Node) bool {
+		k, ok := n.(*ast.CallExpr)
+		return ok && selects("Keys")(k.Fun) && anyNode(k.Args[0], selects("places"))
+	})
 }
 
 // rangeOverMap: is a field of a struct that is a map by ints of what is named so gone over by a range?
