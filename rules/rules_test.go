@@ -43,6 +43,7 @@ func landed() []layer {
 		{"book", []string{"api", "saga"}, []way{{"map", mapByInts("Saga")}, {"range-map", rangeOverMap("Saga")}, {"closure", countsByClosure}}},
 		{"image", []string{"api", "field", "envelope", "note", "saga", "book"}, []way{{"variadic", variadicOf("Field")}, {"closure", readsByClosure}, {"strings-compared", comparesAsStrings}}},
 		{"outbox", []string{"api", "saga", "book"}, []way{{"map", mapByInts("place")}, {"struct-compared", comparesField("command", isCommand)}, {"in-order", sortsKeys}}},
+		{"stub", []string{"api"}, []way{{"map", mapByStructs}, {"three-index", threeIndexOf("planned")}}},
 		{"op", []string{"api"}, nil}, // no layer: what several of them do with operations, and with messages that hold some
 	}
 }
@@ -266,6 +267,15 @@ func mapByInts(value string) func(ast.Node) bool {
 		m, ok := e.(*ast.MapType)
 		return ok && names(m.Key, "int") && anyNode(m.Value, func(n ast.Node) bool { return names(n, value) })
 	})
+}
+
+// mapByStructs: is a field of a struct a map whose keys are structs that the file declares?
+func mapByStructs(n ast.Node) bool {
+	f, ok := n.(*ast.File)
+	return ok && anyNode(f, fieldOf(func(e ast.Expr) bool {
+		m, ok := e.(*ast.MapType)
+		return ok && declaresStruct(f, m.Key)
+	}))
 }
 
 // arrayOf: is a field of a struct an array of what is named so?
@@ -533,6 +543,11 @@ func mapBy(field string) func(ast.Node) bool {
 func threeIndex(n ast.Node) bool {
 	s, ok := n.(*ast.SliceExpr)
 	return ok && s.Slice3
+}
+
+// threeIndexOf: is a field of that name cut so?
+func threeIndexOf(field string) func(ast.Node) bool {
+	return func(n ast.Node) bool { return threeIndex(n) && selects(field)(n.(*ast.SliceExpr).X) }
 }
 
 // givesClosure: is a function literal given to a call?
